@@ -2,7 +2,10 @@
 
 import unittest
 
-from tests.lines import COME, DROP, LONGEST, OVER, PRESENT, SINCE, START, SUM, TIMES, WAIT, WORK, ask, ask_with
+from tests.lines import (
+    AT, COME, DROP, IDLE, LEFT, LONGER, LONGEST, MOST, ORDER, OVER, PRESENT, ROOM, SINCE, SPANS, START, STATE, SUM, TIMES,
+    WAIT, WITHOUT, WORK, ask, ask_with,
+)
 
 
 class Start(unittest.TestCase):
@@ -83,8 +86,10 @@ class Drop(unittest.TestCase):
 
     def test_it_is_as_if_it_had_not_come(self):
         people = [(0, 20), (5, 10), (5, 0), (6, 60), (90, 1), (300, 60)]
-        questions = [SUM, LONGEST, OVER] + [(call, person) for call in (WAIT, TIMES, SINCE) for person in range(6)]
-        questions += [(call, minute) for call in (WORK, PRESENT) for minute in range(0, 400, 5)]
+        questions = [SUM, LONGEST, OVER, SPANS, MOST, STATE, (ORDER, [4, 1, 0, 3, 2]), (LEFT, 40, [4, 1, 0, 3, 2])]
+        questions += [(call, person) for call in (WAIT, TIMES, SINCE, WITHOUT, ROOM) for person in range(6)]
+        questions += [(LONGER, person, 20) for person in range(6)]
+        questions += [(call, minute) for call in (WORK, PRESENT, AT, IDLE) for minute in range(0, 400, 15)]
         for person in range(len(people)):
             with self.subTest(person=person):
                 others = people[:person] + people[person + 1:]

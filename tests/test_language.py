@@ -95,9 +95,33 @@ def faults_of_names(tree):
     return faults
 
 
+def top_names(tree):
+    """Every name that is bound at a file's top, as often as it is."""
+    names = []
+    for node in tree.body:
+        if isinstance(node, ast.ImportFrom):
+            names += [alias.asname or alias.name for alias in node.names]
+        elif isinstance(node, (ast.FunctionDef, ast.ClassDef)):
+            names.append(node.name)
+        elif isinstance(node, ast.Assign):
+            names += [target.id for target in node.targets if isinstance(target, ast.Name)]
+    return names
+
+
+def faults_of_top(tree):
+    """Names bound twice at the top, and parameters and locals that hide a name of the top."""
+    names = top_names(tree)
+    faults = [f"L15 {name} is bound twice" for name in sorted(set(names)) if names.count(name) > 1]
+    for def_node in [node for node in ast.walk(tree) if isinstance(node, ast.FunctionDef)]:
+        within = ast.Module(body=def_node.body, type_ignores=[])
+        inner = [name for name, line in bound_names(within)] + [arg.arg for arg in def_node.args.args]
+        faults += [f"L15 {name} within {def_node.name}" for name in sorted(set(inner) & set(names))]
+    return faults
+
+
 def faults_of(text):
     tree = ast.parse(text)
-    faults = faults_of_text(text) + faults_of_names(tree)
+    faults = faults_of_text(text) + faults_of_names(tree) + faults_of_top(tree)
     for node in ast.walk(tree):
         faults += [f"{fault} in line {getattr(node, 'lineno', 0)}" for fault in faults_of_node(node)]
     return faults
@@ -119,7 +143,8 @@ class Language(unittest.TestCase):
     def test_code_outside_the_rules_is_seen(self):
         for text in ("import os\n", "from random import random\n", "x = 1.5\n", "x = 4 / 2\n", "def f(*xs):\n    pass\n",
                      "sum = 3\n", "x = print(1)\n", "# a type\n", "x = 1\t\n", "def f(xs):\n    xs.sort()\n",
-                     "def f():\n" + "    pass\n" * 40, "def f():\n    yield 1\n", "x = y = 1\n", "def _f():\n    pass\n"):
+                     "def f():\n" + "    pass\n" * 40, "def f():\n    yield 1\n", "x = y = 1\n", "def _f():\n    pass\n",
+                     "x = 1\nx = 2\n", "def f():\n    pass\ndef g(f):\n    pass\n", "X = 1\ndef g():\n    X = 2\n"):
             with self.subTest(text=text):
                 self.assertNotEqual(faults_of(text), [])
 
